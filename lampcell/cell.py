@@ -1,5 +1,6 @@
 """The calls of one line, read one behind another, and what each of them answers."""
 
+from lampcell.goals import greatest_coming, least_sure
 from lampcell.state import Cell
 
 CELL = 0
@@ -8,12 +9,19 @@ ROUNDS = 2
 BACK = 3
 SHOWS = 4
 BEEN = 5
+TURNED = 6
+RIGHT = 7
+SURE = 8
+COMES = 9
+NUMBERS = 10
+WRONG = 11
 
-# How many numbers stand behind each call's own number, from 0 (cell) to 6 (turned).
-WIDTHS = (5, 1, 1, 0, 0, 0, 1)
+# How many numbers stand behind each call's own number, from 0 (cell) to 12 (soon).
+WIDTHS = (5, 1, 1, 0, 0, 0, 1, 0, 0, 0, 0, 0, 0)
 
 OUT_OF_BOUNDS = -1
 NO_SUCH_PERSON = -2
+NOT_SAID = -6
 NOBODY_CALLED = -7
 ALREADY_SAID = -9
 
@@ -89,6 +97,42 @@ def answer_turned(cell, person):
     return [cell.turns[person]]
 
 
+def answer_right(cell):
+    if not cell.said():
+        return [NOT_SAID]
+    return [as_number(cell.all_been())]
+
+
+def answer_sure(cell):
+    return [as_number(cell.is_sure())]
+
+
+def answer_comes(cell):
+    return [as_number(cell.is_coming())]
+
+
+def answer_numbers(cell):
+    least = least_sure(cell.people, cell.times, cell.known)
+    greatest = greatest_coming(cell.people, cell.times)
+    if least > greatest:
+        return [0, 0, 0]
+    return [greatest - least + 1, least, greatest]
+
+
+def answer_wrong(cell):
+    if cell.is_sure():
+        return [NOT_SAID]
+    return [cell.fewest_till_wrong()]
+
+
+def answer_soon(cell):
+    if cell.said():
+        return [ALREADY_SAID]
+    if not cell.can_be_said():
+        return [NOT_SAID]
+    return [cell.fewest_till_said()]
+
+
 def answer(cell, number, given):
     """What the call with this number answers; given is what stands behind that number."""
     if number == CELL:
@@ -103,8 +147,20 @@ def answer(cell, number, given):
         return answer_shows(cell)
     if number == BEEN:
         return answer_been(cell)
-    # What is left is turned: WIDTHS knows no number beyond it.
-    return answer_turned(cell, given[0])
+    if number == TURNED:
+        return answer_turned(cell, given[0])
+    if number == RIGHT:
+        return answer_right(cell)
+    if number == SURE:
+        return answer_sure(cell)
+    if number == COMES:
+        return answer_comes(cell)
+    if number == NUMBERS:
+        return answer_numbers(cell)
+    if number == WRONG:
+        return answer_wrong(cell)
+    # What is left is soon: WIDTHS knows no number beyond it.
+    return answer_soon(cell)
 
 
 def answers(calls):

@@ -1,5 +1,7 @@
 """One cell as it stands: its numbers, its lamp, and every call of a person into it so far."""
 
+from lampcell.goals import fewest_visits, greatest_coming, least_sure
+
 COUNTER = 1
 
 
@@ -65,3 +67,29 @@ class Cell:
     def been(self):
         """Who has been called, rising, each once."""
         return sorted(set([visit[0] for visit in self.visits]))
+
+    def all_been(self):
+        return len(self.been()) == self.people
+
+    def is_sure(self):
+        return self.goal >= least_sure(self.people, self.times, self.known)
+
+    def is_coming(self):
+        return self.goal <= greatest_coming(self.people, self.times)
+
+    def fewest_till_wrong(self):
+        """How many visits, from the first on, till it's said wrongly, where the numbers aren't sure."""
+        # A lamp that may burn at first is the shorter way, whichever way this one was.
+        return fewest_visits(self.goal, 1 - self.known)
+
+    def turns_left(self):
+        """How often the others together can still turn the lamp on."""
+        return (self.people - 1) * self.times - sum(self.turns[COUNTER + 1:])
+
+    def can_be_said(self):
+        """Whether so many as are still wanted can be counted; a lamp that burns is one of them."""
+        return self.counted() + self.lamp + self.turns_left() >= self.goal
+
+    def fewest_till_said(self):
+        """How many visits, from now on, till it's said, where it can be."""
+        return fewest_visits(self.goal - self.counted(), self.lamp)

@@ -7,6 +7,13 @@ GREATEST = 4294967295
 BACK = [3]
 SHOWS = [4]
 BEEN = [5]
+RIGHT = [7]
+SURE = [8]
+COMES = [9]
+NUMBERS = [10]
+WRONG = [11]
+SOON = [12]
+ASKED = [RIGHT, SURE, COMES, NUMBERS, WRONG, SOON]
 
 
 def cell(n, t, c, known, lamp):
@@ -54,7 +61,7 @@ def last(*calls):
 
 def look(people):
     """Calls that together show all that can be asked of a cell with so many people."""
-    return [SHOWS, BEEN] + [turned(p) for p in range(1, people + 1)] + [turned(people + 1)]
+    return [SHOWS, BEEN] + [turned(p) for p in range(1, people + 2)] + ASKED
 
 
 def state(people, *calls):

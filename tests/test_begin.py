@@ -2,8 +2,7 @@
 
 import unittest
 
-from lampcell.state import Cell
-from tests.helper import BACK, BEEN, SHOWS, ask, call, cell, last, rounds, state, turned
+from tests.helper import ASKED, BACK, BEEN, NUMBERS, SHOWS, SURE, ask, call, cell, last, rounds, state, turned
 
 
 class Begin(unittest.TestCase):
@@ -25,7 +24,10 @@ class Begin(unittest.TestCase):
         self.assertEqual(ask(call(1), SHOWS), [[0, 0], [0, 0, 0, 1]])
 
     def test_the_lamp_is_known_to_be_off(self):
-        self.assertEqual((Cell().known, Cell().lamp), (1, 0))
+        self.assertEqual(ask(SURE, NUMBERS), [[1], [1, 2, 2]])
+
+    def test_what_is_asked_at_first(self):
+        self.assertEqual(ask(*ASKED), [[-6], [1], [1], [1, 2, 2], [-6], [4]])
 
     def test_it_is_as_if_that_cell_had_been_told(self):
         lines = [[], [call(2)], [rounds(1)], [rounds(2)], [rounds(100)], [call(3), call(1), BACK]]
@@ -41,7 +43,8 @@ class CellInALine(unittest.TestCase):
 
     def test_in_the_middle_all_begins_anew(self):
         calls = [call(2), call(1), call(3), cell(4, 1, 3, 1, 0)]
-        self.assertEqual(state(4, *calls), [[0, 0, 0, 0], [0], [0], [0], [0], [0], [-2]])
+        self.assertEqual(state(4, *calls), [[0, 0, 0, 0], [0], [0], [0], [0], [0], [-2],
+                                             [-6], [1], [1], [1, 3, 3], [-6], [6]])
         self.assertEqual(last(*calls, BACK), [-7])
 
     def test_in_the_middle_turns_are_given_anew(self):

@@ -2,7 +2,7 @@
 
 import unittest
 
-from tests.helper import BACK, GREATEST, SHOWS, ask, call, cell, last, rounds, state
+from tests.helper import BACK, GREATEST, NUMBERS, SHOWS, ask, call, cell, last, rounds, state
 
 
 class Taken(unittest.TestCase):
@@ -39,6 +39,11 @@ class Taken(unittest.TestCase):
             calls = [cell(2, 20, c, 1, 0)] + [call(2), call(1)] * (c - 1)
             self.assertEqual(last(*calls, SHOWS), [0, c - 1, 0, 2 * c - 2])
             self.assertEqual(last(*calls, call(2), call(1), SHOWS), [0, c, 1, 2 * c])
+
+    def test_known_is_kept(self):
+        self.assertEqual(last(cell(5, 2, 7, 1, 0), NUMBERS), [2, 7, 8])
+        self.assertEqual(last(cell(5, 2, 7, 0, 0), NUMBERS), [1, 8, 8])
+        self.assertEqual(last(cell(5, 2, 7, 0, 1), NUMBERS), [1, 8, 8])
 
 
 class Refused(unittest.TestCase):

@@ -3,10 +3,11 @@
 import unittest
 
 from lampcell.cell import answers
-from tests.helper import BACK, BEEN, SHOWS, call, cell, line_of, rounds, turned
+from tests.helper import ASKED, BACK, BEEN, SHOWS, call, cell, line_of, rounds, turned
 
-LONG = line_of([call(2), SHOWS, BEEN, turned(2), rounds(1), cell(4, 2, 5, 0, 1), rounds(3), BACK, call(9),
-                cell(1, 1, 1, 1, 1), turned(0), rounds(101), SHOWS, BEEN, rounds(100), call(1), rounds(0)])
+LONG = line_of([call(2), SHOWS, BEEN, turned(2), rounds(1), *ASKED, cell(4, 2, 5, 0, 1), rounds(3), BACK, call(9),
+                cell(1, 1, 1, 1, 1), turned(0), rounds(101), SHOWS, BEEN, *ASKED, rounds(100), call(1), rounds(0),
+                *ASKED])
 
 
 class Form(unittest.TestCase):
@@ -32,12 +33,34 @@ class Form(unittest.TestCase):
     def test_turned(self):
         self.assertEqual(answers([6, 3]), [1, 0])
 
+    def test_right(self):
+        self.assertEqual(answers([2, 3, 7]), [2, 7, 1, 1, 1])
+
+    def test_sure(self):
+        self.assertEqual(answers([8]), [1, 1])
+
+    def test_comes(self):
+        self.assertEqual(answers([9]), [1, 1])
+
+    def test_numbers(self):
+        self.assertEqual(answers([10]), [3, 1, 2, 2])
+
+    def test_wrong(self):
+        self.assertEqual(answers([0, 3, 1, 1, 1, 0, 11]), [1, 0, 1, 2])
+
+    def test_soon(self):
+        self.assertEqual(answers([12]), [1, 4])
+
     def test_a_refusal_is_one_number(self):
         self.assertEqual(answers([0, 1, 1, 1, 1, 1]), [1, -1])
         self.assertEqual(answers([1, 4]), [1, -2])
         self.assertEqual(answers([2, 101]), [1, -1])
         self.assertEqual(answers([3]), [1, -7])
         self.assertEqual(answers([6, 4]), [1, -2])
+        self.assertEqual(answers([7]), [1, -6])
+        self.assertEqual(answers([11]), [1, -6])
+        self.assertEqual(answers([0, 3, 1, 3, 1, 0, 12]), [1, 0, 1, -6])
+        self.assertEqual(answers([2, 3, 12]), [2, 7, 1, 1, -9])
         self.assertEqual(answers([2, 3, 1, 1, 2, 1]), [2, 7, 1, 1, -9, 1, -9])
 
     def test_in_order(self):
@@ -69,9 +92,10 @@ class HandedIn(unittest.TestCase):
         self.assertEqual(answers(LONG), first)
 
     def test_nothing_is_kept_for_another_line(self):
-        before = answers([4, 5, 6, 1, 6, 2])
-        answers(line_of([cell(7, 3, 9, 0, 1), rounds(100)]))
-        self.assertEqual(answers([4, 5, 6, 1, 6, 2]), before)
+        line = [4, 5, 6, 1, 6, 2, 7, 8, 9, 10, 11, 12]
+        before = answers(line)
+        answers(line_of([cell(7, 3, 9, 0, 1), rounds(100), *ASKED]))
+        self.assertEqual(answers(line), before)
 
     def test_what_is_given_back_is_the_askers(self):
         first = answers(LONG)
